@@ -1,0 +1,1 @@
+"""Sendershade: letters through mixing houses, and exactly who may have sent them."""

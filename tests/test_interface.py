@@ -1,0 +1,125 @@
+"""The interface: names, files, parameters; and what holds for the call of every function."""
+
+from copy import deepcopy
+from importlib import import_module
+from inspect import isclass, isfunction, signature
+from unittest import TestCase
+
+from tests.calls import CALLS
+from tests.values import listed, only_tuples
+
+ERRORS = ("NoToken", "NoWord", "NothingDone", "Unfit", "NoPaper", "TooMany", "BadText", "BadLine")
+
+# As the document lists them, so that a name that is missing from tests.calls is found, too.
+NAMES = {
+    "covers": "is_letter, is_cover, wrapped, layers, spots_on, goes_to, opened_cover, still_before, gone_through, "
+              "like_before, with_past, rests_exchanged, unrolled, next_mixing, word_shown",
+    "nets": "is_net, is_rest, is_spot, all_spots, is_steady, steady_people, steady_houses, all_routes, hidden_route, "
+            "first_steady, routes_hidden, part_hidden, least_route, safe_routes, shortest_safe, is_fraction, fraction, "
+            "fraction_sum, fraction_less, fraction_times, fraction_compared",
+    "luck": "is_luck, next_luck, picks, unpicked, picks_count, luck_for, plain_luck, pick_alike, first_unlike_pick, "
+            "luck_number, luck_at, all_picks, exchanged_luck, picks_with, part_gone",
+    "bins": "is_rule, is_careful, is_bin, empty_bin, refuses, put_in, must_go, let_go, house_moment, house_run, "
+            "taken_first, taken_last, gone_from, still_wanted, goes_by_wait, senders_lying, run_luck",
+    "worlds": "is_wishes, is_begun, begun_world, is_choice, in_reach, next_world, new_on_roads, road_token, spot_for, "
+              "came_of, went_on, taken_at, is_lying, how_full",
+    "plans": "is_plan, first_unfit, played, played_out, prompt, prompt_plan, idle_comes, without_idle, letters_on, "
+             "home_behind, all_home_by, fullest",
+}
+
+LISTS = ("all_routes", "safe_routes", "all_picks", "house_run", "played")
+
+
+def module_of(file):
+    return import_module(f"sendershade.{file}")
+
+
+def all_calls():
+    """Triples of each call: the name, the function, the arguments by their names."""
+    return [(row[0], getattr(module_of(file), row[0]), row[1]) for file, rows in CALLS.items() for row in rows]
+
+
+def outcome(call, *args, **named):
+    """What a call returns or raises, in a form that tells True from 1 and lists from tuples."""
+    try:
+        return repr(call(*args, **named))
+    except (LookupError, ValueError) as error:
+        return f"{type(error)} {vars(error)}"
+
+
+class TestNames(TestCase):
+
+    def test_errors(self):
+        for name in ERRORS:
+            told = getattr(module_of("errors"), name)
+            self.assertTrue(isclass(told) and told.__module__ == "sendershade.errors", name)
+
+    def test_functions(self):
+        for file, text in NAMES.items():
+            for name in text.split(", "):
+                told = getattr(module_of(file), name)
+                self.assertTrue(isfunction(told) and told.__module__ == f"sendershade.{file}", name)
+
+    def test_each_is_called_here(self):
+        for file, text in NAMES.items():
+            self.assertEqual({row[0] for row in CALLS[file]}, set(text.split(", ")))
+
+    def test_parameters(self):
+        for name, call, given in all_calls():
+            self.assertEqual([str(told) for told in signature(call).parameters.values()], list(given), name)
+
+
+class TestEveryCall(TestCase):
+
+    def test_errors(self):
+        for file, row in [(file, row) for file, rows in CALLS.items() for row in rows]:
+            with self.subTest(row):
+                told = outcome(getattr(module_of(file), row[0]), **row[1])
+                if len(row) > 2:
+                    self.assertIn(f"sendershade.errors.{row[2]}'", told)
+                else:
+                    self.assertNotIn("<class", told)
+
+    def test_by_position_and_by_name(self):
+        for name, call, given in all_calls():
+            with self.subTest(name, given=given):
+                turned = dict(reversed(list(given.items())))
+                told = outcome(call, *given.values())
+                self.assertEqual(outcome(call, **turned), told)
+                self.assertEqual(outcome(call, **given), told)
+
+    def test_lists_for_tuples(self):
+        for name, call, given in all_calls():
+            with self.subTest(name, given=given):
+                told = outcome(call, **given)
+                lists = {key: part if key == "thing" else listed(part) for key, part in given.items()}
+                kept = deepcopy(lists)
+                self.assertEqual(outcome(call, **lists), told)
+                self.assertEqual(lists, kept)
+                for key in [key for key in given if key != "thing"]:
+                    self.assertEqual(outcome(call, **{**given, key: lists[key]}), told)
+
+    def test_tuples_and_lists_returned(self):
+        for name, call, given in all_calls():
+            with self.subTest(name, given=given):
+                try:
+                    told = call(**given)
+                    told_of_lists = call(**{key: part if key == "thing" else listed(part)
+                                            for key, part in given.items()})
+                except (LookupError, ValueError):
+                    continue
+                self.assertEqual(isinstance(told, list), name in LISTS)
+                for part in (told, told_of_lists):
+                    self.assertTrue(only_tuples(tuple(part) if name in LISTS else part))
+
+    def test_returned_lists_belong_to_the_caller(self):
+        for name, call, given in [call for call in all_calls() if call[0] in LISTS]:
+            with self.subTest(name, given=given):
+                kept = outcome(call, **given)
+                try:
+                    told = call(**given)
+                except (LookupError, ValueError):
+                    continue
+                told.append(told.pop(0))
+                told.clear()
+                self.assertEqual(outcome(call, **given), kept)
