@@ -43,3 +43,17 @@ def is_set_below(thing, top):
 def as_set(things):
     """The set of these things."""
     return tuple(sorted(set(things)))
+
+
+def never_falls(numbers):
+    """Whether no number of a list is below the one ahead of it."""
+    return all([numbers[place] <= numbers[place + 1] for place in range(len(numbers) - 1)])
+
+
+def is_exactly(thing, value):
+    """Whether thing is value to the sign: True is not 1, a list is no tuple."""
+    if isinstance(value, tuple):
+        return is_row(thing, len(value)) and all([is_exactly(part, own) for part, own in zip(thing, value)])
+    if isinstance(value, bool) or isinstance(thing, bool):
+        return isinstance(value, bool) and isinstance(thing, bool) and thing == value
+    return thing == value

@@ -4,6 +4,7 @@ from importlib import import_module
 from unittest import TestCase
 
 from tests.examples import run_examples
+from tests.examples_sights import ALIKE, SHADES, SHARES, SIGHTS, SWAPS, TABLES, THREADS, VIEWS
 
 COVERS = """
 >>> net, rest = (4, 3), ((3,), (1,))
@@ -127,7 +128,9 @@ raises NoPaper()
 raises Unfit()
 """
 
-SECTIONS = (("covers", COVERS), ("nets", NETS), ("luck", LUCK), ("bins", BINS), ("worlds", WORLDS), ("plans", PLANS))
+SECTIONS = (("covers", COVERS), ("nets", NETS), ("luck", LUCK), ("bins", BINS), ("worlds", WORLDS), ("plans", PLANS),
+            ("views", VIEWS), ("sights", SIGHTS), ("threads", THREADS), ("swaps", SWAPS), ("shades", SHADES),
+            ("shares", SHARES), ("tables", TABLES), ("alike", ALIKE))
 
 
 def names_of(files):

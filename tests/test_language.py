@@ -10,7 +10,8 @@ PACKAGE = Path(__file__).resolve().parent.parent / "sendershade"
 FILES = sorted(path for path in PACKAGE.rglob("*") if path.is_file() and "__pycache__" not in path.parts)
 
 # A file draws from those ahead of it alone.
-ORDER = ("forms", "errors", "covers", "nets", "luck", "bins", "worlds", "plans")
+ORDER = ("forms", "errors", "tokens", "covers", "nets", "luck", "bins", "worlds", "plans", "views", "sights", "threads",
+         "swaps", "shades", "shares", "tables", "alike")
 
 LIBRARY = {"math": {"gcd", "lcm", "isqrt", "comb", "perm", "factorial"},
            "itertools": {"product", "combinations", "permutations", "chain", "accumulate", "pairwise", "islice",
