@@ -6,10 +6,11 @@ from inspect import isclass, isfunction, signature
 from unittest import TestCase
 
 from tests.calls import CALLS as FIRST_CALLS
+from tests.calls_shades import SHADE_CALLS
 from tests.calls_sights import SIGHT_CALLS
 from tests.values import listed, only_tuples
 
-CALLS = {**FIRST_CALLS, **SIGHT_CALLS}
+CALLS = {**FIRST_CALLS, **SIGHT_CALLS, **SHADE_CALLS}
 
 ERRORS = ("NoToken", "NoWord", "NothingDone", "Unfit", "NoPaper", "TooMany", "BadText", "BadLine")
 
@@ -28,18 +29,26 @@ NAMES = {
               "came_of, went_on, taken_at, is_lying, how_full",
     "plans": "is_plan, first_unfit, played, played_out, prompt, prompt_plan, idle_comes, without_idle, letters_on, "
              "home_behind, all_home_by, fullest",
-    "views": "tag_of, view_of, views_along, view_till, first_parted, same_view, is_view, seen_at, hidden_in, told_words, "
-             "own_letters, row_links, row_ends",
+    "views": "tag_of, view_of, views_along, view_till, first_parted, same_view, is_view, seen_at, hidden_in, "
+             "told_words, own_letters, row_links, row_ends",
     "sights": "is_sight, sight_of, is_known, known_tokens, ins_of, outs_of, all_outs, sent_by, come_home, lies_ahead, "
               "least_lying, lying_behind, emptied, sight_at",
     "threads": "is_threading, true_threading, how_many, all_threadings, first_threading, threading_at, number_of, "
                "free_for, goes_on, way_back, sender_of, way_on, still_lying, homes, threadings_from",
-    "swaps": "lie_together, swaps_of, swapped, swapped_by, unlike_outs, steps_apart, swap_row, is_swap_row, first_swaps, "
-             "ever_together, always_together, heaps, heap_of, heap_outs, heap_ways",
+    "swaps": "lie_together, swaps_of, swapped, swapped_by, unlike_outs, steps_apart, swap_row, is_swap_row, "
+             "first_swaps, ever_together, always_together, heaps, heap_of, heap_outs, heap_ways",
+    "shades": "may_come, sources, becomes, shade, shades, sure_sender, is_chain, chain, chain_count, threading_with, "
+              "cut, is_cut, shades_apart, thinnest",
+    "shares": "share, shares_of, share_table, greatest_share, sharers, counted_share, pool_at, lying_shares, is_shares, "
+              "share_paper, is_share_paper",
+    "tables": "all_senders, ends, end_table, is_end_table, sure_senders, alike_rows, how_many_with, shares_with, "
+              "share_with, link_share, links_of, changed_by, fewest_links",
+    "alike": "luck_by, wishes_by, alike_world, is_alike, threading_of, all_alike, alike_along, other_world, is_other, "
+             "letters_by",
 }
 
 LISTS = ("all_routes", "safe_routes", "all_picks", "house_run", "played", "views_along", "all_threadings",
-         "threadings_from")
+         "threadings_from", "all_alike", "alike_along")
 
 
 def module_of(file):
