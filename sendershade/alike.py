@@ -15,6 +15,7 @@ from sendershade.worlds import is_begun
 
 def _last_of(world, plan):
     """The WORLD to which plan leads; Unfit() unless world begins and is careful, and plan is one for it."""
+    world = frozen(world)
     if not is_begun(world):
         raise Unfit()
     check_careful(world)
@@ -22,7 +23,7 @@ def _last_of(world, plan):
 
 
 def _last_with(world, plan, threading):
-    """As _last_of; Unfit(), too, unless threading is one of the SIGHT there. All is frozen."""
+    """As _last_of; Unfit(), too, unless threading, which is frozen, is one of the SIGHT there."""
     last = _last_of(world, plan)
     if not is_threading(sight_of(last), threading):
         raise Unfit()
@@ -31,13 +32,10 @@ def _last_with(world, plan, threading):
 
 def _house_luck(last, threading, house):
     """The places in lying of the TOKENS that go out of a steady HOUSE, in order."""
-    taken, done = last[5][house][1], 0
-    lying, luck = [], []
-    for token, (_, spot, sent) in enumerate(last[6]):
+    # What came later lies behind, and so changes no place: all may lie there from the beginning on.
+    lying, luck = [own for own, _ in last[5][house][1]], []
+    for token, (_, spot, _) in enumerate(last[6]):
         if spot == ("house", house):
-            due = len([came for _, came in taken if came <= sent])
-            lying.extend([own for own, _ in taken[done:due]])
-            done = due
             place = lying.index(threading[token])
             luck.append(place)
             lying.pop(place)
@@ -53,7 +51,7 @@ def _luck_by(last, threading):
 def luck_by(world, plan, threading):
     """The tuple with, for each HOUSE, the LUCK by which it lets go what threading tells."""
     threading = frozen(threading)
-    return _luck_by(_last_with(frozen(world), frozen(plan), threading), threading)
+    return _luck_by(_last_with(world, plan, threading), threading)
 
 
 def _wish_by(last, threading, token):
@@ -77,7 +75,7 @@ def _wishes_by(last, threading):
 def wishes_by(world, plan, threading):
     """The WISHES by which, with luck_by, the letters go by threading and the VIEW is the same."""
     threading = frozen(threading)
-    return _wishes_by(_last_with(frozen(world), frozen(plan), threading), threading)
+    return _wishes_by(_last_with(world, plan, threading), threading)
 
 
 def _world_by(last, threading):
@@ -90,7 +88,7 @@ def _world_by(last, threading):
 def alike_world(world, plan, threading):
     """world with the WISHES and the LUCK by which the letters go by threading."""
     threading = frozen(threading)
-    return _world_by(_last_with(frozen(world), frozen(plan), threading), threading)
+    return _world_by(_last_with(world, plan, threading), threading)
 
 
 def _is_alike(last, plan, thing):
@@ -103,33 +101,33 @@ def _is_alike(last, plan, thing):
 def is_alike(world, plan, thing):
     """Whether thing is an alike WORLD."""
     plan = frozen(plan)
-    return _is_alike(_last_of(frozen(world), plan), plan, thing)
+    return _is_alike(_last_of(world, plan), plan, thing)
 
 
 def threading_of(world, plan, other):
     """The THREADING that other, an alike WORLD, has behind plan."""
     plan, other = frozen(plan), frozen(other)
-    if not _is_alike(_last_of(frozen(world), plan), plan, other):
+    if not _is_alike(_last_of(world, plan), plan, other):
         raise Unfit()
     return true_threading(played_out(other, plan))
 
 
 def all_alike(world, plan):
     """The list of alike_world for all THREADINGS, in their order."""
-    last = _last_of(frozen(world), frozen(plan))
+    last = _last_of(world, plan)
     return [_world_by(last, threading) for threading in threadings_in(sight_of(last))]
 
 
 def alike_along(world, plan, swaps):
     """The list of alike_world for the true THREADING, and behind each of swaps."""
-    last = _last_of(frozen(world), frozen(plan))
+    last = _last_of(world, plan)
     rows = along_row(sight_of(last), true_threading(last), frozen(swaps))
     return [_world_by(last, threading) for threading in rows]
 
 
 def other_world(world, plan, token, person):
     """An alike WORLD in which the letter of token is person's."""
-    last = _last_of(frozen(world), frozen(plan))
+    last = _last_of(world, plan)
     sight = sight_of(last)
     return _world_by(last, threading_with(sight, chain(sight, token, person)))
 
@@ -137,7 +135,7 @@ def other_world(world, plan, token, person):
 def is_other(world, plan, token, person, thing):
     """Whether thing is an alike WORLD in which the letter of token is person's."""
     plan = frozen(plan)
-    last = _last_of(frozen(world), plan)
+    last = _last_of(world, plan)
     check_token(token, last[6])
     if not _is_alike(last, plan, thing):
         return False
@@ -147,7 +145,7 @@ def is_other(world, plan, token, person, thing):
 
 def letters_by(world, plan, person):
     """The set of the LETTERS whose COVER 0 goes on the roads from person in some of all_alike."""
-    last = _last_of(frozen(world), frozen(plan))
+    last = _last_of(world, plan)
     rows = threadings_in(sight_of(last))
     tokens = [token for token, row in enumerate(last[6]) if row[1] == ("person", person)]
     if person in last[1][0]:

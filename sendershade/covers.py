@@ -43,9 +43,9 @@ def spots_on(letter):
 
 def goes_to(cover):
     """The SPOT that cover is for."""
-    route, goal, _ = still_before(cover)
-    if route:
-        return ("house", route[0])
+    (_, route, goal, _), place = cover
+    if place < len(route):
+        return ("house", route[place])
     return ("person", goal)
 
 

@@ -7,7 +7,8 @@ DEEPEST = 20
 def frozen(value, levels=DEEPEST):
     """A copy of value in which each list is a tuple."""
     if levels > 0 and isinstance(value, (list, tuple)):
-        return tuple([frozen(part, levels - 1) for part in value])
+        # What is no list and no tuple, as most of it, is not asked again: nearly every call begins here.
+        return tuple([frozen(part, levels - 1) if isinstance(part, (list, tuple)) else part for part in value])
     return value
 
 

@@ -17,9 +17,10 @@ def check_careful(world):
 
 
 def _came_to_house(world, token, goal):
-    """The moment at which the steady HOUSE goal took token; None if there is none."""
-    if goal[0] == "person" or not is_steady(world[1], goal):
+    """The moment at which a steady HOUSE took token, which is for goal; None if there is none."""
+    if goal[0] == "person":
         return None
+    # The BINS of the rest's HOUSES are empty for ever.
     for taken, moment in world[5][goal[1]][1]:
         if taken == token:
             return moment
@@ -154,7 +155,6 @@ def _are_others_fit(sight):
 
 def is_sight(net, rest, thing):
     """Whether thing has the form of a SIGHT."""
-    net, rest = frozen(net), frozen(rest)
     if not isinstance(thing, tuple) or not all([_is_passing(net, rest, row) for row in thing]):
         return False
     if not never_falls([row[2] for row in thing]):

@@ -25,10 +25,9 @@ def all_senders(sight):
 
 
 def _end_tokens(sight):
-    """The TOKENS of the ENDS; sight is frozen."""
+    """The TOKENS of the ENDS: what no HOUSE took, and none of the rest opened; sight is frozen."""
     opened = [row[4][1] for row in sight if row[4] is not None and row[4][0] == "opened"]
-    return [token for token, row in enumerate(sight)
-            if not is_own(row) and (row[1][0] == "person" or (row[3] is None and token not in opened))]
+    return [token for token, row in enumerate(sight) if not is_own(row) and row[3] is None and token not in opened]
 
 
 def _end_houses(sight):

@@ -5,7 +5,7 @@ from sendershade.forms import as_set, frozen, is_exactly, is_number, is_row
 from sendershade.sights import (ahead_of_outs, all_outs_in, check_careful, check_out, come_home, ins_at, is_out,
                                 is_own, ready_for)
 from sendershade.tokens import check_token
-from sendershade.worlds import came_of
+from sendershade.worlds import token_of
 
 MOST_THREADINGS = 5000
 
@@ -42,7 +42,8 @@ def true_threading(world):
     """The THREADING that tells for each TOKEN that of which it came indeed."""
     world = frozen(world)
     check_careful(world)
-    return tuple([came_of(world, token) for token in range(len(world[6]))])
+    covers = [row[0] for row in world[6]]
+    return tuple([None if place == 0 else token_of(world, (letter, place - 1)) for letter, place in covers])
 
 
 def product_of(numbers):

@@ -13,7 +13,8 @@ def tag_in(world, token):
     (letter, place), spot, _ = world[6][token]
     if letter[0] in world[1][0]:
         return ("own", letter, place)
-    if spot[0] == "house" and not is_steady(world[1], spot):
+    # The letter is a steady PERSON's, so what is from one of the rest's SPOTS was opened there.
+    if not is_steady(world[1], spot):
         return ("opened", token_of(world, (letter, place - 1)))
     return None
 
@@ -52,7 +53,6 @@ def _moments_of(view):
 
 def first_parted(near, far):
     """The least moment till which near and far are unlike; None if they are equal."""
-    near, far = frozen(near), frozen(far)
     for moment in as_set(_moments_of(near) + _moments_of(far)):
         if view_till(near, moment) != view_till(far, moment):
             return moment
@@ -94,19 +94,15 @@ def _are_own_tags_fit(rows):
 
 
 def _is_tag_fit(net, rest, rows, place):
-    """Whether the tag at place is as the second line of the table says, but for other "own" tags."""
-    spot, goal, sent, tag, _ = rows[place]
+    """Whether the tag at place is as the second line of the table says, but for what _is_followed asks."""
+    spot, goal, _, tag, _ = rows[place]
     if tag is None:
         return is_steady(rest, spot)
     if is_own_tag(net, rest, (spot, goal), tag):
         return True
     if place == 0 or not is_exactly(tag, ("opened", place - 1)):
         return False
-    _, reached, earlier, ahead, _ = rows[place - 1]
-    if reached != spot or spot[0] == "person" or is_steady(rest, spot):
-        return False
-    # Of the tags, which are not all looked at yet, those of the rest's LETTERS alone are triples.
-    return earlier == sent and not is_row(ahead, 3)
+    return rows[place - 1][1] == spot and spot[0] == "house" and not is_steady(rest, spot)
 
 
 def _is_followed(rest, rows, place):
@@ -134,7 +130,6 @@ def _is_again(rows, thing):
 
 def is_view(net, rest, thing):
     """Whether thing has the form of a VIEW."""
-    net, rest = frozen(net), frozen(rest)
     if not is_row(thing, 2) or not isinstance(thing[0], tuple):
         return False
     rows, again = thing

@@ -15,6 +15,8 @@ LAST = START[:4] + (2, (((), ((0, 2), (1, 2)), ()), ((), (), ())), ROADS, ())
 VIEW = (((ZERO, HOME, 1, None, None), (ONE, HOME, 1, None, None), (("person", 2), HOME, 2, ("own", OWN, 0), None),
          (HOME, ZERO, 2, None, None), (HOME, BAD, 2, None, None), (BAD, ("person", 2), 2, ("opened", 4), 7)), ())
 EARLY = (VIEW[0][:2], ())
+OWN_VIEW = ((VIEW[0][2], (HOME, BAD, 2, None, None), (BAD, ZERO, 2, ("opened", 1), None),
+             (HOME, ONE, 3, ("own", OWN, 1), None)), ((4, 0), (4, 3)))
 TRUE = (None, None, None, 2, 0, 1, 5)
 NEAR, FAR = (None, None, None, 0, 1), (None, None, None, 1, 2)
 MANY = crowd(8, 8)
@@ -38,8 +40,10 @@ SIGHT_CALLS = {
         ("told_words", {"view": VIEW}),
         ("own_letters", {"view": VIEW}),
         ("row_links", {"view": VIEW, "token": 5}),
+        ("row_links", {"view": OWN_VIEW, "token": 3}),
         ("row_links", {"view": VIEW, "token": -1}, "NoToken"),
         ("row_ends", {"view": VIEW}),
+        ("row_ends", {"view": OWN_VIEW}),
     ),
     "sights": (
         ("is_sight", {"net": MIXED_REST[0], "rest": MIXED_REST[1], "thing": MIXED}),
@@ -100,13 +104,16 @@ SIGHT_CALLS = {
         ("swapped", {"sight": POOL, "threading": NEAR, "swap": (1, 2)}),
         ("swapped", {"sight": POOL, "threading": NEAR, "swap": (0, 2)}, "Unfit"),
         ("swapped_by", {"sight": POOL, "threading": NEAR, "row": ((0, 1), (0, 2))}),
+        ("swapped_by", {"sight": POOL, "threading": NEAR, "row": ()}),
         ("swapped_by", {"sight": POOL, "threading": NEAR, "row": ((0, 1), (1, 2))}, "Unfit"),
         ("unlike_outs", {"one": NEAR, "other": FAR}),
         ("steps_apart", {"sight": POOL, "one": NEAR, "other": FAR}),
         ("swap_row", {"sight": POOL, "one": NEAR, "other": FAR}),
         ("is_swap_row", {"sight": POOL, "one": NEAR, "other": FAR, "thing": ((0, 1), (0, 2))}),
         ("is_swap_row", {"sight": POOL, "one": NEAR, "other": FAR, "thing": [(0, 1), (0, 2)]}),
+        ("is_swap_row", {"sight": POOL, "one": NEAR, "other": NEAR, "thing": ()}),
         ("first_swaps", {"sight": POOL, "one": NEAR, "other": FAR}),
+        ("first_swaps", {"sight": POOL, "one": NEAR, "other": NEAR}),
         ("ever_together", {"sight": POOL}),
         ("always_together", {"sight": POOL}),
         ("heaps", {"sight": LONE}),

@@ -39,8 +39,8 @@ NAMES = {
              "first_swaps, ever_together, always_together, heaps, heap_of, heap_outs, heap_ways",
     "shades": "may_come, sources, becomes, shade, shades, sure_sender, is_chain, chain, chain_count, threading_with, "
               "cut, is_cut, shades_apart, thinnest",
-    "shares": "share, shares_of, share_table, greatest_share, sharers, counted_share, pool_at, lying_shares, is_shares, "
-              "share_paper, is_share_paper",
+    "shares": "share, shares_of, share_table, greatest_share, sharers, counted_share, pool_at, lying_shares, "
+              "is_shares, share_paper, is_share_paper",
     "tables": "all_senders, ends, end_table, is_end_table, sure_senders, alike_rows, how_many_with, shares_with, "
               "share_with, link_share, links_of, changed_by, fewest_links",
     "alike": "luck_by, wishes_by, alike_world, is_alike, threading_of, all_alike, alike_along, other_world, is_other, "

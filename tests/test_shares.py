@@ -140,6 +140,8 @@ class TestPapers(TestCase):
                       self.sheet + ((9, BOTH),), ((0, alone(0)), (1, alone(1)), (7, BOTH))):
             self.assertIs(is_share_paper(POOL, 3, thing), False, thing)
         self.assertIs(is_share_paper(POOL, 4, self.sheet), False)
+        whole = tuple(enumerate(share_table(POOL)))
+        self.assertEqual([is_share_paper(POOL, token, whole) for token in range(5)], [False] * 4 + [True])
 
 
 class TestRuns(TestCase):

@@ -168,6 +168,13 @@ class TestIsView(TestCase):
                             ("7", False), ((7,), False)):
             self.assertIs(is_view(NET, REST, (((HERE, ("person", 2), 1, None, word),), ())), known, word)
 
+    def test_persons_of_the_rest_open_nothing(self):
+        rows = ((HERE, ("person", 2), 1, None, 4), (("person", 2), HERE, 1, ("opened", 0), None))
+        self.assertIs(is_view(NET, REST, (rows[:1], ())), True)
+        self.assertIs(is_view(NET, REST, (rows, ())), False)
+        # Neither does anybody ahead of the first row.
+        self.assertIs(is_view(NET, REST, (((BAD, ZERO, 1, ("opened", -1), None),), ())), False)
+
     def test_own_tags(self):
         two = ("person", 2)
         first, last = (two, HERE, 1, ("own", OWN, 0), None), (HERE, ONE, 2, ("own", OWN, 1), None)
