@@ -143,3 +143,31 @@ class TestLanguage(TestCase):
                 if isinstance(node, ast.Compare) and any(isinstance(op, (ast.Is, ast.IsNot)) for op in node.ops):
                     self.assertIsInstance(node.comparators[0], ast.Constant, f"{name}:{node.lineno}")
             self.assertIsNone(BARRED_WORDS.search(self.texts[name]), name)
+
+    def test_iterated_at_once(self):
+        whole = {"list", "tuple", "dict", "sorted", "sum", "any", "all", "enumerate", "zip", "min", "max"}
+        over_ranges = {"reversed", "permutations", "combinations", "product"}
+        for name, tree in self.trees.items():
+            fit = []
+            for node in ast.walk(tree):
+                if isinstance(node, (ast.For, ast.comprehension)):
+                    fit.append(node.iter)
+                elif isinstance(node, ast.Call) and isinstance(node.func, ast.Name) and node.func.id in whole:
+                    fit.extend(node.args[:1])
+                elif isinstance(node, ast.Call) and isinstance(node.func, ast.Name) and node.func.id in over_ranges:
+                    fit.extend(own for own in node.args if isinstance(own, ast.Call) and own.func.id == "range")
+            for node in [node for node in ast.walk(tree) if isinstance(node, ast.Call) and node not in fit]:
+                if isinstance(node.func, ast.Name):
+                    self.assertNotIn(node.func.id, {"zip", "enumerate", "range"} | over_ranges, f"{name}:{node.lineno}")
+                elif isinstance(node.func, ast.Attribute):
+                    self.assertNotIn(node.func.attr, ("items", "keys", "values"), f"{name}:{node.lineno}")
+
+    def test_sets_are_sorted_at_once(self):
+        for name, tree in self.trees.items():
+            fit = [node.args[0] for node in ast.walk(tree) if isinstance(node, ast.Call) and node.args
+                   and isinstance(node.func, ast.Name) and node.func.id in ("sorted", "len")]
+            for node in ast.walk(tree):
+                if isinstance(node, (ast.Set, ast.SetComp)) or (isinstance(node, ast.Call)
+                                                               and isinstance(node.func, ast.Name)
+                                                               and node.func.id == "set"):
+                    self.assertIn(node, fit, f"{name}:{node.lineno}")
