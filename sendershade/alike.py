@@ -63,8 +63,8 @@ def _wish_by(last, threading, token):
     return (sent, letter)
 
 
-def _wishes_by(last, threading):
-    """As wishes_by, last being the WORLD behind the PLAN; all is frozen."""
+def wishes_along(last, threading):
+    """As wishes_by, whatever the RULES are, last being the WORLD behind the PLAN; all is frozen."""
     told = list(last[3])
     for token, (_, spot, _) in enumerate(last[6]):
         if spot[0] == "person" and spot[1] not in last[1][0]:
@@ -75,14 +75,14 @@ def _wishes_by(last, threading):
 def wishes_by(world, plan, threading):
     """The WISHES by which, with luck_by, the letters go by threading and the VIEW is the same."""
     threading = frozen(threading)
-    return _wishes_by(_last_with(world, plan, threading), threading)
+    return wishes_along(_last_with(world, plan, threading), threading)
 
 
 def _world_by(last, threading):
     """As alike_world, last being the WORLD behind the PLAN; all is frozen."""
     net, rest, rules = last[:3]
     bins = tuple([((), (), luck) for luck in _luck_by(last, threading)])
-    return (net, rest, rules, _wishes_by(last, threading), 0, bins, (), ())
+    return (net, rest, rules, wishes_along(last, threading), 0, bins, (), ())
 
 
 def alike_world(world, plan, threading):
@@ -91,8 +91,8 @@ def alike_world(world, plan, threading):
     return _world_by(_last_with(world, plan, threading), threading)
 
 
-def _is_alike(last, plan, thing):
-    """Whether thing is a WORLD alike to that which plan led to last; last and plan are frozen."""
+def looks_alike(last, plan, thing):
+    """Whether thing is a WORLD alike to that which plan led to last, whatever its RULES are; both are frozen."""
     if not is_begun(thing) or thing[:3] != last[:3] or not is_plan(thing, plan):
         return False
     return same_view(played_out(thing, plan), last)
@@ -101,13 +101,13 @@ def _is_alike(last, plan, thing):
 def is_alike(world, plan, thing):
     """Whether thing is an alike WORLD."""
     plan = frozen(plan)
-    return _is_alike(_last_of(world, plan), plan, thing)
+    return looks_alike(_last_of(world, plan), plan, thing)
 
 
 def threading_of(world, plan, other):
     """The THREADING that other, an alike WORLD, has behind plan."""
     plan, other = frozen(plan), frozen(other)
-    if not _is_alike(_last_of(world, plan), plan, other):
+    if not looks_alike(_last_of(world, plan), plan, other):
         raise Unfit()
     return true_threading(played_out(other, plan))
 
@@ -137,7 +137,7 @@ def is_other(world, plan, token, person, thing):
     plan = frozen(plan)
     last = _last_of(world, plan)
     check_token(token, last[6])
-    if not _is_alike(last, plan, thing):
+    if not looks_alike(last, plan, thing):
         return False
     letter, _ = played_out(thing, plan)[6][token][0]
     return letter[0] == person

@@ -38,12 +38,17 @@ def is_threading(sight, thing):
     return len(as_set([thing[token] for token in outs])) == len(outs)
 
 
+def true_ways(world):
+    """As true_threading, whatever the RULES are; world is frozen."""
+    covers = [row[0] for row in world[6]]
+    return tuple([None if place == 0 else token_of(world, (letter, place - 1)) for letter, place in covers])
+
+
 def true_threading(world):
     """The THREADING that tells for each TOKEN that of which it came indeed."""
     world = frozen(world)
     check_careful(world)
-    covers = [row[0] for row in world[6]]
-    return tuple([None if place == 0 else token_of(world, (letter, place - 1)) for letter, place in covers])
+    return true_ways(world)
 
 
 def product_of(numbers):
@@ -85,9 +90,12 @@ def all_threadings(sight):
     return threadings_in(frozen(sight))
 
 
-def threading_with_links(sight, links):
-    """The least THREADING with links, a dict of outs and their ins that a THREADING has; sight is frozen."""
-    held = list(links.values())
+def threading_with_links(sight, links, kept=()):
+    """The least THREADING with links, a dict of outs and their ins, in which of none of kept something came.
+
+    Some THREADING has all of these; sight is frozen.
+    """
+    held = list(links.values()) + list(kept)
     told = sure_ways(sight)
     for token in all_outs_in(sight):
         if token in links:

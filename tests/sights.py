@@ -16,6 +16,8 @@ MIXED_REST = ((3, 2), ((2,), (1,)))
 MIXED = ((TWO, HOME, 1, 2, ("own", NOTE, 0)), (ZERO, HOME, 1, 2, None), (ONE, HOME, 1, 2, None),
          (HOME, ZERO, 2, None, None), (HOME, ONE, 2, None, ("own", NOTE, 1)), (HOME, AFTER, 2, None, None),
          (AFTER, TWO, 2, None, ("opened", 5)))
+# A THREADING of it.
+MIXED_TRUE = (None, None, None, 2, 0, 1, 5)
 
 
 def crowd(people, many, houses=1):

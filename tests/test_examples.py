@@ -4,6 +4,7 @@ from importlib import import_module
 from unittest import TestCase
 
 from tests.examples import run_examples
+from tests.examples_finds import FINDS, GAMES, GOALS, JUDGE, LEAST, ROUNDS, SHELL, TEXTS
 from tests.examples_sights import ALIKE, SHADES, SHARES, SIGHTS, SWAPS, TABLES, THREADS, VIEWS
 
 COVERS = """
@@ -130,7 +131,9 @@ raises Unfit()
 
 SECTIONS = (("covers", COVERS), ("nets", NETS), ("luck", LUCK), ("bins", BINS), ("worlds", WORLDS), ("plans", PLANS),
             ("views", VIEWS), ("sights", SIGHTS), ("threads", THREADS), ("swaps", SWAPS), ("shades", SHADES),
-            ("shares", SHARES), ("tables", TABLES), ("alike", ALIKE))
+            ("shares", SHARES), ("tables", TABLES), ("alike", ALIKE), ("least", LEAST),
+            ("finds", FINDS), ("games", GAMES), ("rounds", ROUNDS), ("goals", GOALS), ("judge", JUDGE),
+            ("texts", TEXTS), ("shell", SHELL))
 
 
 def names_of(files):

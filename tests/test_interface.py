@@ -6,11 +6,13 @@ from inspect import isclass, isfunction, signature
 from unittest import TestCase
 
 from tests.calls import CALLS as FIRST_CALLS
+from tests.calls_finds import FIND_CALLS
 from tests.calls_shades import SHADE_CALLS
+from tests.calls_shell import SHELL_CALLS
 from tests.calls_sights import SIGHT_CALLS
 from tests.values import listed, only_tuples
 
-CALLS = {**FIRST_CALLS, **SIGHT_CALLS, **SHADE_CALLS}
+CALLS = {**FIRST_CALLS, **SIGHT_CALLS, **SHADE_CALLS, **FIND_CALLS, **SHELL_CALLS}
 
 ERRORS = ("NoToken", "NoWord", "NothingDone", "Unfit", "NoPaper", "TooMany", "BadText", "BadLine")
 
@@ -45,10 +47,23 @@ NAMES = {
               "share_with, link_share, links_of, changed_by, fewest_links",
     "alike": "luck_by, wishes_by, alike_world, is_alike, threading_of, all_alike, alike_along, other_world, is_other, "
              "letters_by",
+    "least": "sure_many, least_batch, least_keep, least_rules, is_enough, weak_houses, left_least, left_most, counts_of, "
+             "is_counts, bound_at, share_bound, behind, least_bound, thin_ones, heavy_ones",
+    "finds": "mate_rows, possible, mate_of, is_mate_of, least_seen, traced, weakness, finding, is_finding",
+    "games": "is_stand, turns_at, after_turn, best_found, sure_found, sure_move, is_sure_move, found_table, is_play, "
+             "finds_of, play_world, is_play_world",
+    "goals": "end_in, may_be_open, goals_of, all_goals, goal_threading, is_goal_threading, goal_cut, is_goal_cut, "
+             "held_over, can_all, threading_with_all, pairs_bar, is_pairs_bar, sure_pairs",
+    "rounds": "writes_in, goal_sets, suspects, found_at, round_paper, is_round_paper, clearing, is_clearing, "
+              "suspects_of, friend_lots, sure_of, is_only, least_rounds, quick_sets, is_quick",
+    "judge": "is_claim, is_so, paper, is_paper, shows, not_so, words_so",
+    "texts": "letter_text, world_text, wishes_text, choice_text, plan_text, view_text, read_letter, read_world, "
+             "read_wishes, read_choice, read_plan, read_view, news, grown",
+    "shell": "first_desk, is_request, requests, scene_after, said, worked, session",
 }
 
 LISTS = ("all_routes", "safe_routes", "all_picks", "house_run", "played", "views_along", "all_threadings",
-         "threadings_from", "all_alike", "alike_along")
+         "threadings_from", "all_alike", "alike_along", "friend_lots", "requests")
 
 
 def module_of(file):

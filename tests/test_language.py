@@ -11,7 +11,8 @@ FILES = sorted(path for path in PACKAGE.rglob("*") if path.is_file() and "__pyca
 
 # A file draws from those ahead of it alone.
 ORDER = ("forms", "errors", "tokens", "covers", "nets", "luck", "bins", "worlds", "plans", "views", "sights", "threads",
-         "swaps", "shades", "shares", "tables", "alike")
+         "swaps", "shades", "shares", "tables", "alike", "least", "runs", "finds", "games", "goals", "rounds", "shapes",
+         "judge", "lines", "texts", "shell")
 
 LIBRARY = {"math": {"gcd", "lcm", "isqrt", "comb", "perm", "factorial"},
            "itertools": {"product", "combinations", "permutations", "chain", "accumulate", "pairwise", "islice",
@@ -24,7 +25,7 @@ BUILTINS = set("len range enumerate zip min max sum abs sorted reversed int str 
 METHODS = set("append clear copy count endswith extend find get index insert isalnum isalpha isdigit islower isspace "
               "isupper items join keys ljust lower lstrip partition pop remove replace reverse rfind rjust rpartition "
               "rsplit rstrip setdefault split splitlines startswith strip update upper values zfill bit_length sort "
-              "add discard".split())
+              "add discard isascii isdecimal".split())
 STATEMENTS = (ast.Assign, ast.AugAssign, ast.If, ast.While, ast.For, ast.Return, ast.Break, ast.Continue, ast.Pass,
               ast.Raise, ast.Delete, ast.Try, ast.Expr, ast.FunctionDef)
 EXPRESSIONS = (ast.BoolOp, ast.BinOp, ast.UnaryOp, ast.Lambda, ast.IfExp, ast.Dict, ast.ListComp, ast.SetComp,
@@ -101,12 +102,35 @@ class TestLanguage(TestCase):
             for node in tree.body[1:]:
                 self.assertIsInstance(node, (ast.ImportFrom, ast.FunctionDef, ast.ClassDef, ast.Assign), name)
                 if isinstance(node, ast.Assign):
-                    ast.literal_eval(node.value)
+                    self.check_value(node.value, bound)
                     bound.append(node.targets[0].id)
                 elif not isinstance(node, ast.ImportFrom):
                     bound.append(node.name)
             self.assertEqual(len(bound), len(set(bound)), name)
             self.assertFalse(set(bound) & (set(dir(builtins)) | BARRED_NAMES), name)
+
+    def check_value(self, value, bound):
+        """value is a literal, or a dict of literals and of functions defined above."""
+        if not isinstance(value, ast.Dict) or not isinstance(value.values[0], ast.Name):
+            ast.literal_eval(value)
+            return
+        for key, part in zip(value.keys, value.values):
+            ast.literal_eval(key)
+            self.assertIn(part.id, bound)
+
+    def test_tables_are_read_only(self):
+        for name, tree in self.trees.items():
+            tables = {node.targets[0].id for node in tree.body if isinstance(node, ast.Assign)
+                      and isinstance(node.value, (ast.Dict, ast.List))}
+            fit = []
+            for node in ast.walk(tree):
+                if isinstance(node, ast.Subscript) and isinstance(node.ctx, ast.Load):
+                    fit.append(node.value)
+                elif isinstance(node, ast.Compare):
+                    fit.extend(node.comparators)
+            for node in [node for function in functions_of(tree) for node in ast.walk(function)]:
+                if isinstance(node, ast.Name) and node.id in tables:
+                    self.assertIn(node, fit, f"{name}:{node.lineno}")
 
     def test_nodes(self):
         for name, tree in self.trees.items():
