@@ -98,6 +98,14 @@ def looks_alike(last, plan, thing):
     return same_view(played_out(thing, plan), last)
 
 
+def looks_alike_from(last, plan, token, person, thing):
+    """Whether thing looks alike, and the letter of token, which is one of last, is person's there."""
+    if not looks_alike(last, plan, thing):
+        return False
+    letter, _ = played_out(thing, plan)[6][token][0]
+    return letter[0] == person
+
+
 def is_alike(world, plan, thing):
     """Whether thing is an alike WORLD."""
     plan = frozen(plan)
@@ -137,10 +145,7 @@ def is_other(world, plan, token, person, thing):
     plan = frozen(plan)
     last = _last_of(world, plan)
     check_token(token, last[6])
-    if not looks_alike(last, plan, thing):
-        return False
-    letter, _ = played_out(thing, plan)[6][token][0]
-    return letter[0] == person
+    return looks_alike_from(last, plan, token, person, thing)
 
 
 def letters_by(world, plan, person):

@@ -1,6 +1,6 @@
 """Plans that find: whom the rest can leave as possible senders, whatever the RULES are, and when it can leave few."""
 
-from sendershade.alike import looks_alike, wishes_along
+from sendershade.alike import looks_alike_from, wishes_along
 from sendershade.errors import NoPaper, TooMany
 from sendershade.forms import as_set, frozen, is_below, is_number, is_row
 from sendershade.nets import steady_houses
@@ -102,10 +102,7 @@ def is_mate_of(world, plan, token, person, thing):
     plan = frozen(plan)
     last = played_out(world, plan)
     check_token(token, last[6])
-    if not looks_alike(last, plan, thing):
-        return False
-    letter, _ = played_out(thing, plan)[6][token][0]
-    return letter[0] == person
+    return looks_alike_from(last, plan, token, person, thing)
 
 
 def least_seen(world, plan):

@@ -3,6 +3,7 @@
 from copy import deepcopy
 from importlib import import_module
 from inspect import isclass, isfunction, signature
+from random import Random
 from unittest import TestCase
 
 from tests.calls import CALLS as FIRST_CALLS
@@ -10,7 +11,7 @@ from tests.calls_finds import FIND_CALLS
 from tests.calls_shades import SHADE_CALLS
 from tests.calls_shell import SHELL_CALLS
 from tests.calls_sights import SIGHT_CALLS
-from tests.values import listed, only_tuples
+from tests.values import changed, listed, only_tuples, parts_of
 
 CALLS = {**FIRST_CALLS, **SIGHT_CALLS, **SHADE_CALLS, **FIND_CALLS, **SHELL_CALLS}
 
@@ -68,6 +69,15 @@ LISTS = ("all_routes", "safe_routes", "all_picks", "house_run", "played", "views
 
 def module_of(file):
     return import_module(f"sendershade.{file}")
+
+
+def some_value(chance, deep):
+    """Some value of numbers, True, False, None, strings, lists and tuples, so many levels deep at most."""
+    if deep == 0 or chance.random() < 0.4:
+        return chance.choice((0, 1, 2, -1, 7, 10 ** 30, True, False, None, "", "person", "house", "own", "opened", "may",
+                              "never", "over", "twice", "go", "x y\n z"))
+    parts = [some_value(chance, deep - 1) for _ in range(chance.choice((0, 1, 2, 2, 3, 4, 5, 8)))]
+    return chance.choice((tuple, tuple, list))(parts)
 
 
 def all_calls():
@@ -134,6 +144,22 @@ class TestEveryCall(TestCase):
                 self.assertEqual(lists, kept)
                 for key in [key for key in given if key != "thing"]:
                     self.assertEqual(outcome(call, **{**given, key: lists[key]}), told)
+
+    def test_any_thing(self):
+        chance = Random(1)
+        calls = [(outcome(own[1], **own[2]),) + own for own in all_calls() if "thing" in own[2]]
+        # Where a FINDING is too large that is told, so long as all else is so.
+        for told, name, call, given in [own for own in calls if "TooMany" not in own[0]]:
+            ways = [way for way, _ in parts_of(given["thing"])]
+            things = [some_value(chance, deep) for deep in (1, 2, 3, 4, 12) for _ in range(2)]
+            things += [changed(given["thing"], chance.choice(ways), some_value(chance, 2)) for _ in range(8)]
+            for thing in things:
+                with self.subTest(name, thing=thing):
+                    again = outcome(call, **{**given, "thing": thing})
+                    if told.startswith("<class"):
+                        self.assertEqual(again, told)
+                    else:
+                        self.assertIn(again, ("True", "False") + ("None",) * (name == "shows"))
 
     def test_tuples_and_lists_returned(self):
         for name, call, given in all_calls():

@@ -207,6 +207,9 @@ class TestWrongLines(TestCase):
                          words[:spot] + ["0" + words[spot]] + words[spot + 1:], words[:spot] + ["-"] + words[spot + 1:],
                          words[:spot] + ["9"] + words[spot + 1:], words + [""], [""] + words):
                 told.append(lines[:place] + [" ".join(part)] + lines[place + 1:])
+            spot = chance.randrange(len(line))
+            for sign in ("", line[spot] * 2, chance.choice(" 0,-pw")):
+                told.append(lines[:place] + [line[:spot] + sign + line[spot + 1:]] + lines[place + 1:])
         return [other for other in told if other != [""]]
 
     def first_wrong(self, read, lines):
@@ -220,9 +223,11 @@ class TestWrongLines(TestCase):
 
     def ends(self, read, lines):
         """Rows of lines, of which one makes a whole text of these lines, if any does."""
-        if read is not read_world or lines[0].split(" ")[0] != "world":
+        words = lines[0].split(" ")
+        if read is not read_world or len(words) != 3 or not words[1].isdecimal() or not words[2].isdecimal():
             return [[]]
-        return [[" rule 1 0 - yes yes"] * house + [" wish -"] * person for house in range(10) for person in range(10)]
+        rules, wishes = [[line for line in lines if line.startswith(word)] for word in (" rule", " wish")]
+        return [[" rule 1 0 - yes yes"] * (int(words[2]) - len(rules)) + [" wish -"] * (int(words[1]) - len(wishes))]
 
     def test_lines_that_are_wanting(self):
         for number in range(30):
